@@ -1,0 +1,1 @@
+"""A store brought over in pieces, whole."""
