@@ -21,6 +21,7 @@ FOUND_SPOILED = 3
 
 NO_SUCH = -1
 ALREADY = -2
+MIXTURE = -2
 STOPPED = -3
 SPOILED_BEFORE = -4
 NO_MORE_WRITES = -5
@@ -33,9 +34,13 @@ TAKE = 3
 KEEP = 4
 LOSE = 5
 SPOIL = 6
+STOP = 7
+START = 8
+LETTERS = 9
+NODE = 10
+WHOLE = 11
 
-# How many numbers stand behind each call's own number. All thirteen calls are listed,
-# since without a world each of them is answered.
+# How many numbers stand behind each call's own number, from begin on to at.
 HANDED = (1, 2, 3, 1, 1, 1, 3, 1, 1, 0, 1, 1, 1)
 
 
@@ -64,12 +69,12 @@ class Letter:
 
 
 class World:
-    """The nodes, the row of letters on their way, and how many writes there were."""
+    """The nodes, the row of letters on their way, and the writes there were, cell and value of each."""
 
     def __init__(self, count):
         self.nodes = [Node() for number in range(count)]
         self.row = []
-        self.writes = 0
+        self.writes = []
 
 
 class Line:
@@ -108,14 +113,15 @@ def write(world, cell, value):
     store = world.nodes[STORE]
     if not store.runs:
         return STOPPED
-    if world.writes >= MOST_WRITES:
+    if len(world.writes) >= MOST_WRITES:
         return NO_MORE_WRITES
-    world.writes = world.writes + 1
+    world.writes.append((cell, value))
+    number = len(world.writes)
     store.held[cell] = value
-    store.written[cell] = world.writes
+    store.written[cell] = number
     # The store misses none of its writes, so each of its pieces is up to the last one.
-    store.upto = [world.writes] * PIECES
-    return world.writes
+    store.upto = [number] * PIECES
+    return number
 
 
 def ask(world, asker, whom, piece):
@@ -238,21 +244,112 @@ def spoil(world, position, place, number):
     return 0
 
 
+def stop(world, number):
+    """Stops a node."""
+    if number >= len(world.nodes):
+        return NO_SUCH
+    node = world.nodes[number]
+    if not node.runs:
+        return ALREADY
+    node.runs = False
+    return 0
+
+
+def start(world, number):
+    """Has a node run again with what is on its disk: what it waited for is forgotten."""
+    if number >= len(world.nodes):
+        return NO_SUCH
+    node = world.nodes[number]
+    if node.runs:
+        return ALREADY
+    node.runs = True
+    node.waits = []
+    return 0
+
+
+def tell_letters(world):
+    """Tells the row of letters, each as it stands: a spoiled one shows what it was spoiled to."""
+    told = [len(world.row)]
+    for letter in world.row:
+        told.extend([letter.kind, letter.receiver, letter.sender, len(letter.numbers)])
+        told.extend(letter.numbers)
+        told.append(letter.checksum)
+    return told
+
+
+def tell_node(world, number):
+    """Tells all that a node has on its disk and in its memory."""
+    if number >= len(world.nodes):
+        return [NO_SUCH]
+    node = world.nodes[number]
+    told = [1 if node.runs else 0, node.asked]
+    told.extend(node.upto)
+    for cell in range(CELLS):
+        told.extend([node.held[cell], node.written[cell]])
+    told.append(len(node.waits))
+    for wait in node.waits:
+        told.extend(wait)
+    return told
+
+
+def tell_whole(world, number):
+    """Tells behind which write the store was as the node has it now."""
+    if number >= len(world.nodes):
+        return [NO_SUCH]
+    node = world.nodes[number]
+    least = min(node.upto)
+    if max(node.written) > least:
+        return [MIXTURE]
+    return [least]
+
+
+def tell_at(world, moment):
+    """Tells the values of the store's cells as they were behind a write."""
+    if moment > len(world.writes):
+        return [NO_SUCH]
+    held = [0] * CELLS
+    for cell, value in world.writes[:moment]:
+        held[cell] = value
+    return held
+
+
+def change_world(world, call, handed):
+    """Gives the one number that a call answers which may change the world."""
+    if call == WRITE:
+        return write(world, handed[0], handed[1])
+    if call == ASK:
+        return ask(world, handed[0], handed[1], handed[2])
+    if call == TAKE:
+        return take(world, handed[0])
+    if call == KEEP:
+        return keep(world, handed[0])
+    if call == LOSE:
+        return lose(world, handed[0])
+    if call == SPOIL:
+        return spoil(world, handed[0], handed[1], handed[2])
+    if call == STOP:
+        return stop(world, handed[0])
+    # Of the calls up to start this one alone is left.
+    return start(world, handed[0])
+
+
+def look_at_world(world, call, handed):
+    """Gives the numbers that a call answers which changes nothing."""
+    if call == LETTERS:
+        return tell_letters(world)
+    if call == NODE:
+        return tell_node(world, handed[0])
+    if call == WHOLE:
+        return tell_whole(world, handed[0])
+    # Of the calls behind start at alone, call 12, is left.
+    return tell_at(world, handed[0])
+
+
 def answer_in_world(world, call, handed):
     """Gives what a call on a world answers, as a list."""
-    if call == WRITE:
-        return [write(world, handed[0], handed[1])]
-    if call == ASK:
-        return [ask(world, handed[0], handed[1], handed[2])]
-    if call == TAKE:
-        return [take(world, handed[0])]
-    if call == KEEP:
-        return [keep(world, handed[0])]
-    if call == LOSE:
-        return [lose(world, handed[0])]
-    if call == SPOIL:
-        return [spoil(world, handed[0], handed[1], handed[2])]
-    raise NotImplementedError(f"call {call} is not built yet")
+    if call <= START:
+        return [change_world(world, call, handed)]
+    return look_at_world(world, call, handed)
 
 
 def answer_call(line, call, handed):

@@ -33,6 +33,30 @@ def spoil(letter, place, number):
     return [6, letter, place, number]
 
 
+def stop(number):
+    return [7, number]
+
+
+def start(number):
+    return [8, number]
+
+
+def letters():
+    return [9]
+
+
+def node(number):
+    return [10, number]
+
+
+def whole(number):
+    return [11, number]
+
+
+def at(moment):
+    return [12, moment]
+
+
 def joined(calls):
     """One list of whole numbers, as it is handed in."""
     numbers = []
@@ -41,16 +65,42 @@ def joined(calls):
     return numbers
 
 
+def parted(numbers):
+    """The numbers that are given back, a list for each call; counts that don't come out even are a fault."""
+    lists = []
+    place = 0
+    while place < len(numbers):
+        behind = place + 1 + numbers[place]
+        if numbers[place] < 1 or behind > len(numbers):
+            raise AssertionError(f"no such count at {place}: {numbers}")
+        lists.append(numbers[place + 1:behind])
+        place = behind
+    return lists
+
+
+def answered(*calls):
+    """What each of these calls answers, as a list each."""
+    lists = parted(nodes.answers(joined(calls)))
+    if len(lists) != len(calls):
+        raise AssertionError(f"{len(lists)} answers to {len(calls)} calls")
+    return lists
+
+
+def shown(*calls):
+    """What the last of these calls answers, as a list."""
+    return answered(*calls)[-1]
+
+
 def told(*calls):
     """The one number that each of these calls answers; a count other than 1 is a fault."""
-    numbers = nodes.answers(joined(calls))
-    if len(numbers) != 2 * len(calls) or any(count != 1 for count in numbers[0::2]):
-        raise AssertionError(f"not one number for each of {len(calls)} calls: {numbers}")
-    return numbers[1::2]
+    lists = answered(*calls)
+    if any(len(numbers) != 1 for numbers in lists):
+        raise AssertionError(f"not one number for each of {len(calls)} calls: {lists}")
+    return [numbers[0] for numbers in lists]
 
 
 def last(*calls):
-    """What the last of these calls answers."""
+    """The one number that the last of these calls answers."""
     return told(*calls)[-1]
 
 
@@ -73,12 +123,12 @@ def letter_state(letter):
 def state(world):
     """All that a world holds, as it is now."""
     return (
-        world.writes,
+        list(world.writes),
         [node_state(node) for node in world.nodes],
         [letter_state(letter) for letter in world.row],
     )
 
 
-def letters(world):
+def row_of(world):
     """Of each letter the kind, to whom, from whom, the numbers, the sum."""
     return [letter_state(letter)[:5] for letter in world.row]

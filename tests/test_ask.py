@@ -2,8 +2,7 @@
 
 import unittest
 
-from calls import ask, begin, built, last, letters, state, take, told, write
-from broughtover import nodes
+from calls import ask, begin, built, last, row_of, state, take, told, write
 
 
 class Ask(unittest.TestCase):
@@ -13,7 +12,7 @@ class Ask(unittest.TestCase):
 
     def test_the_letter(self):
         world = built(begin(3), ask(1, 0, 3), ask(2, 1, 2), ask(1, 2, 0))
-        self.assertEqual(letters(world), [
+        self.assertEqual(row_of(world), [
             (0, 0, 1, [1, 3, 0], 1 + 2 * 3),
             (0, 1, 2, [1, 2, 0], 1 + 2 * 2),
             (0, 2, 1, [2, 0, 0], 2),
@@ -22,7 +21,7 @@ class Ask(unittest.TestCase):
     def test_since_the_write_up_to_which_it_has_the_piece(self):
         fetched = [begin(2), write(0, 5), write(3, 6), ask(1, 0, 1), take(0), take(0)]
         world = built(*fetched, write(3, 7), ask(1, 0, 1), ask(1, 0, 0))
-        self.assertEqual(letters(world), [
+        self.assertEqual(row_of(world), [
             (0, 0, 1, [2, 1, 2], 2 + 2 * 1 + 3 * 2),
             (0, 0, 1, [3, 0, 0], 3),
         ])
@@ -60,30 +59,6 @@ class Ask(unittest.TestCase):
         refused = [ask(0, 1, 0), ask(3, 0, 0), ask(1, 3, 0), ask(1, 0, 4), ask(1, 1, 0)]
         self.assertEqual(told(*used, *refused, ask(1, 0, 0)), [0, 1, -1, -1, -1, -1, -1, 2])
         self.assertEqual(state(built(*used, *refused)), state(built(*used)))
-
-
-class Stopped(unittest.TestCase):
-    def setUp(self):
-        self.world = built(begin(3))
-
-    def test_who_asks_has_stopped(self):
-        self.world.nodes[1].runs = False
-        before = state(self.world)
-        self.assertEqual(nodes.ask(self.world, 1, 0, 0), -3)
-        self.assertEqual(state(self.world), before)
-
-    def test_minus_1_is_told_first(self):
-        for node in self.world.nodes:
-            node.runs = False
-        for asker, whom, piece in ((0, 1, 0), (3, 0, 0), (1, 3, 0), (1, 0, 4), (1, 1, 0)):
-            self.assertEqual(nodes.ask(self.world, asker, whom, piece), -1, (asker, whom, piece))
-
-    def test_who_is_asked_may_have_stopped(self):
-        self.world.nodes[0].runs = False
-        self.world.nodes[2].runs = False
-        self.assertEqual(nodes.ask(self.world, 1, 0, 0), 1)
-        self.assertEqual(nodes.ask(self.world, 1, 2, 0), 2)
-        self.assertEqual(len(self.world.row), 2)
 
 
 if __name__ == "__main__":

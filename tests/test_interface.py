@@ -4,14 +4,19 @@ import contextlib
 import io
 import unittest
 
-from calls import ask, begin, joined, keep, lose, spoil, take, write
+from calls import ask, at, begin, joined, keep, letters, lose, node, parted, spoil, start, stop, take, whole, write
 from broughtover import nodes
 
 CALLS = joined([
-    write(0, 1), begin(3), write(0, 10), ask(1, 0, 0), keep(0), take(1), ask(2, 1, 0), take(1), take(1),
-    spoil(0, 3, 9), take(0), lose(0), begin(9), write(12, 0),
+    letters(), begin(3), write(0, 10), ask(1, 0, 0), keep(0), letters(), take(1), ask(2, 1, 0), take(1), take(1),
+    node(2), spoil(0, 3, 9), take(0), lose(0), whole(1), at(1), at(2), stop(2), ask(2, 0, 0), start(2), start(2),
+    node(3), begin(9), whole(3), write(12, 0),
 ])
-ANSWERS = [-9, 0, 1, 1, 1, 2, 1, 1, 2, 0, 3, -1, -1, -1]
+ANSWERS = [
+    [-9], [0], [1], [1], [1], [2, 0, 0, 1, 3, 1, 0, 0, 1, 1, 1, 0, 8, 1, 0, 0, 1, 1, 0, 10, 1, 88], [2], [1], [1], [2],
+    [1, 1, 1, 0, 0, 0, 10, 1] + [0] * 22 + [0], [0], [3], [-1], [-2], [10] + [0] * 11, [-1], [0], [-3], [0], [-2],
+    [-1], [-1], [-1], [-1],
+]
 
 
 class Untouched(list):
@@ -27,9 +32,17 @@ class Untouched(list):
 class Interface(unittest.TestCase):
     def test_for_each_call_how_many_numbers_then_these(self):
         wanted = []
-        for number in ANSWERS:
-            wanted.extend([1, number])
+        for numbers in ANSWERS:
+            wanted.extend([len(numbers)] + numbers)
         self.assertEqual(nodes.answers(CALLS), wanted)
+
+    def test_how_many_numbers_each_call_has(self):
+        told = nodes.answers(begin(2) + letters() + node(0) + whole(0) + at(0) + stop(0) + start(0))
+        self.assertEqual(told, [1, 0, 1, 0, 31, 1] + [0] * 30 + [1, 0, 12] + [0] * 12 + [1, 0, 1, 0])
+
+    def test_no_number_but_a_refusal_is_below_0(self):
+        for numbers in parted(nodes.answers(CALLS)):
+            self.assertTrue(len(numbers) == 1 or min(numbers) >= 0, numbers)
 
     def test_one_call(self):
         self.assertEqual(nodes.answers([0, 2]), [1, 0])
@@ -59,6 +72,8 @@ class Interface(unittest.TestCase):
         first = nodes.answers(CALLS)
         self.assertEqual(nodes.answers(CALLS), first)
         self.assertEqual(nodes.answers(write(0, 1)), [1, -9])
+        self.assertEqual(nodes.answers(letters()), [1, -9])
+        self.assertEqual(nodes.answers(begin(3) + letters() + at(1) + stop(2)), [1, 0, 1, 0, 1, -1, 1, 0])
         self.assertEqual(nodes.answers(begin(2) + write(0, 1) + ask(1, 0, 0) + take(1)), [1, 0, 1, 1, 1, 1, 1, -1])
         self.assertEqual(nodes.answers(CALLS), first)
 

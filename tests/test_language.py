@@ -22,7 +22,7 @@ FORBIDDEN_WORDS = re.compile(
 )
 BUILT_IN = set(
     "len range enumerate zip min max sum abs sorted reversed int str bool list tuple dict isinstance ord repr"
-    " any all divmod Exception ValueError NotImplementedError".split()
+    " any all divmod Exception ValueError".split()
 )
 METHODS = set(
     "append clear copy count endswith extend find get index insert items join keys pop remove replace reverse"

@@ -2,7 +2,7 @@
 
 import unittest
 
-from calls import ask, begin, built, keep, letters, lose, node_state, state, take, told, write
+from calls import ask, begin, built, keep, lose, node_state, row_of, state, take, told, write
 
 
 class Lose(unittest.TestCase):
@@ -10,10 +10,10 @@ class Lose(unittest.TestCase):
         self.used = [begin(3), write(0, 10), ask(1, 0, 0), ask(1, 0, 1), ask(2, 0, 2), take(1)]
 
     def test_it_is_gone_and_those_behind_it_move_up(self):
-        row = letters(built(*self.used))
+        row = row_of(built(*self.used))
         for position in range(3):
             world = built(*self.used, lose(position))
-            self.assertEqual(letters(world), row[:position] + row[position + 1:])
+            self.assertEqual(row_of(world), row[:position] + row[position + 1:])
 
     def test_what_is_answered(self):
         self.assertEqual(told(*self.used, lose(2), lose(0), lose(0), lose(0))[6:], [0, 0, 0, -1])

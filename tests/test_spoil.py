@@ -2,7 +2,7 @@
 
 import unittest
 
-from calls import ask, begin, built, keep, letters, lose, spoil, state, take, told, write
+from calls import ask, begin, built, keep, lose, row_of, spoil, state, take, told, write
 
 
 class Spoil(unittest.TestCase):
@@ -19,11 +19,11 @@ class Spoil(unittest.TestCase):
         for position, standing in ((0, self.ask), (1, self.answer)):
             for place in range(len(standing)):
                 self.assertEqual(self.answered(spoil(position, place, 4321)), [0])
-                row = letters(built(*self.used, spoil(position, place, 4321)))
+                row = row_of(built(*self.used, spoil(position, place, 4321)))
                 wanted = list(standing)
                 wanted[place] = 4321
                 self.assertEqual(row[position][3] + [row[position][4]], wanted)
-                self.assertEqual(row[1 - position], letters(built(*self.used))[1 - position])
+                self.assertEqual(row[1 - position], row_of(built(*self.used))[1 - position])
 
     def test_a_place_behind_the_sum(self):
         for place in range(41):

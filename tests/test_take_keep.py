@@ -2,7 +2,7 @@
 
 import unittest
 
-from calls import ask, begin, built, keep, last, letters, node_state, spoil, state, take, told, write
+from calls import ask, begin, built, keep, last, node_state, row_of, spoil, state, take, told, write
 from broughtover import nodes
 
 
@@ -38,13 +38,13 @@ class AskHandedOver(unittest.TestCase):
         used = [begin(2), write(1, 50), ask(1, 0, 0)]
         answer = (1, 1, 0, [1, 0, 0, 1, 1, 1, 50, 1], 1 + 4 + 5 + 6 + 350 + 8)
         self.assertEqual(last(*used, take(0)), 1)
-        self.assertEqual(letters(built(*used, take(0))), [answer])
+        self.assertEqual(row_of(built(*used, take(0))), [answer])
         self.assertEqual(last(*used, keep(0)), 1)
-        self.assertEqual(letters(built(*used, keep(0))), [(0, 0, 1, [1, 0, 0], 1), answer])
+        self.assertEqual(row_of(built(*used, keep(0))), [(0, 0, 1, [1, 0, 0], 1), answer])
 
     def test_a_letter_in_the_midst(self):
         used = [begin(2), ask(1, 0, 0), ask(1, 0, 1), ask(1, 0, 2), take(1)]
-        self.assertEqual([letter[3] for letter in letters(built(*used))], [[1, 0, 0], [3, 2, 0], [2, 1, 0, 0, 0]])
+        self.assertEqual([letter[3] for letter in row_of(built(*used))], [[1, 0, 0], [3, 2, 0], [2, 1, 0, 0, 0]])
 
     def test_only_the_cells_of_the_piece_in_order(self):
         writes = [write(cell, 100 + cell) for cell in reversed(range(12))]
@@ -54,7 +54,7 @@ class AskHandedOver(unittest.TestCase):
             for cell in (3 * piece, 3 * piece + 1, 3 * piece + 2):
                 cells.extend([cell, 100 + cell, 12 - cell])
             numbers = [1, piece, 0, 12, 3] + cells
-            self.assertEqual(letters(world), [(1, 1, 0, numbers, nodes.sum_of(numbers))])
+            self.assertEqual(row_of(world), [(1, 1, 0, numbers, nodes.sum_of(numbers))])
 
     def test_only_the_cells_written_behind_since(self):
         used = [begin(2), write(0, 10), write(1, 11), ask(1, 0, 0), take(0), take(0)]
@@ -96,7 +96,7 @@ class AnswerHandedOver(unittest.TestCase):
     def test_take_takes_it_out_and_keep_lets_it_lie(self):
         used = [begin(2), write(3, 30), ask(1, 0, 1), take(0)]
         self.assertEqual(len(built(*used, take(0)).row), 0)
-        self.assertEqual(letters(built(*used, keep(0))), letters(built(*used)))
+        self.assertEqual(row_of(built(*used, keep(0))), row_of(built(*used)))
 
     def test_a_piece_goes_on_by_an_answer_without_cells(self):
         used = [begin(2), write(3, 30), ask(1, 0, 0), take(0), take(0)]
@@ -168,7 +168,7 @@ class ByANodeThatIsNotTheStore(unittest.TestCase):
         used = fetched + [ask(2, 1, 0), take(0)]
         self.assertEqual(last(*used), 1)
         numbers = [1, 0, 0, 2, 2, 0, 10, 1, 1, 11, 2]
-        self.assertEqual(letters(built(*used)), [(1, 2, 1, numbers, nodes.sum_of(numbers))])
+        self.assertEqual(row_of(built(*used)), [(1, 2, 1, numbers, nodes.sum_of(numbers))])
         self.assertEqual(last(*used, take(0)), 2)
         node = built(*used, take(0)).nodes[2]
         self.assertEqual((node.held[:2], node.written[:2], node.upto), ([10, 11], [1, 2], [2, 0, 0, 0]))
@@ -220,38 +220,6 @@ class Spoiled(unittest.TestCase):
     def test_not_waited_for_and_spoiled(self):
         used = self.answered + [keep(0), spoil(0, 3, 77), take(0)]
         self.assertEqual(told(*used)[5:], [2, 0, 3])
-
-
-class ToANodeThatHasStopped(unittest.TestCase):
-    def test_an_ask(self):
-        world = built(begin(2), write(0, 10), ask(1, 0, 0))
-        world.nodes[0].runs = False
-        before = state(world)
-        self.assertEqual(nodes.keep(world, 0), 0)
-        self.assertEqual(state(world), before)
-        self.assertEqual(nodes.take(world, 0), 0)
-        self.assertEqual(world.row, [])
-
-    def test_an_answer(self):
-        world = built(begin(2), write(0, 10), ask(1, 0, 0), take(0))
-        world.nodes[1].runs = False
-        before = state(world)
-        self.assertEqual(nodes.keep(world, 0), 0)
-        self.assertEqual(state(world), before)
-
-    def test_a_spoiled_letter(self):
-        world = built(begin(2), ask(1, 0, 0), spoil(0, 3, 77))
-        world.nodes[0].runs = False
-        self.assertEqual(nodes.keep(world, 0), 0)
-        self.assertEqual(nodes.take(world, 0), 0)
-
-    def test_who_sent_it_may_have_stopped(self):
-        world = built(begin(2), write(0, 10), ask(1, 0, 0))
-        world.nodes[1].runs = False
-        self.assertEqual(nodes.take(world, 0), 1)
-        world.nodes[1].runs = True
-        world.nodes[0].runs = False
-        self.assertEqual(nodes.take(world, 0), 2)
 
 
 class TheNetsRoom(unittest.TestCase):

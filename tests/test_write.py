@@ -40,26 +40,6 @@ class Write(unittest.TestCase):
         self.assertEqual(state(built(*used, write(12, 9), write(3, 10000))), state(built(*used)))
 
 
-class StoppedStore(unittest.TestCase):
-    def setUp(self):
-        self.world = built(begin(2), write(3, 4))
-        self.world.nodes[0].runs = False
-
-    def test_refused(self):
-        before = state(self.world)
-        self.assertEqual(nodes.write(self.world, 0, 1), -3)
-        self.assertEqual(state(self.world), before)
-
-    def test_no_such_cell_or_value_is_told_first(self):
-        self.assertEqual(nodes.write(self.world, 12, 1), -1)
-        self.assertEqual(nodes.write(self.world, 0, 10000), -1)
-
-    def test_another_node_that_has_stopped_does_not_matter(self):
-        world = built(begin(2))
-        world.nodes[1].runs = False
-        self.assertEqual(nodes.write(world, 0, 1), 1)
-
-
 class MostWrites(unittest.TestCase):
     def setUp(self):
         self.world = built(begin(2))
@@ -74,7 +54,7 @@ class MostWrites(unittest.TestCase):
 
     def test_the_other_refusals_are_told_first(self):
         self.assertEqual(nodes.write(self.world, 12, 1), -1)
-        self.world.nodes[0].runs = False
+        self.assertEqual(nodes.stop(self.world, 0), 0)
         self.assertEqual(nodes.write(self.world, 0, 10000), -1)
         self.assertEqual(nodes.write(self.world, 0, 1), -3)
 
